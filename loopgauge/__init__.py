@@ -1,0 +1,1 @@
+"""Loops over whole numbers, and how many turns they take at most."""
