@@ -27,6 +27,11 @@ def is_list_of(thing, least, most):
     return type(thing) is list and least <= len(thing) <= most
 
 
+def are_wholes(thing, length):
+    """Whether a thing is a list of so many whole numbers."""
+    return is_list_of(thing, length, length) and all(is_whole(number) for number in thing)
+
+
 def is_pair(thing):
     """Whether a thing is a tuple of two things."""
     return type(thing) is tuple and len(thing) == 2
@@ -64,7 +69,7 @@ def is_loop(thing):
 
 def is_state(thing, many):
     """Whether a thing is a state of so many names."""
-    return is_list_of(thing, many, many) and all(is_whole(number) for number in thing)
+    return are_wholes(thing, many)
 
 
 def need_loop(thing):

@@ -3,6 +3,7 @@
 import unittest
 from copy import deepcopy
 
+from helpers import NOWHERE, Hostile, HostileList, exchanged, found, holds_itself, largest, places
 from loopgauge import loops
 from loopgauge.errors import BadCount, BadLoop, BadState
 from loopgauge.loops import after, need_loop, run
@@ -17,67 +18,6 @@ PAIR = (2, [([[1, 0, 0], [0, -1, 4]], [[2, 3, 1], [-1, 0, 7]]), ([], [[0, 1, 0],
 STILL = (2, [([], [[1, 0, 0], [0, 1, 0]])])
 SMALLEST = (1, [([], [[0, 0]])])
 
-
-def largest():
-    """A loop of as much as there may be of everything."""
-    row = [1000, -1000, 0, 1]
-    return (3, [([list(row) for _ in range(4)], [list(row) for _ in range(3)]) for _ in range(3)])
-
-
-class Hostile:
-    """Whatever it is asked, it fails."""
-
-    @property
-    def __class__(self):
-        raise RuntimeError("asked")
-
-    def __eq__(self, other):
-        raise RuntimeError("asked")
-
-    def __bool__(self):
-        raise RuntimeError("asked")
-
-    def __len__(self):
-        raise RuntimeError("asked")
-
-    def __iter__(self):
-        raise RuntimeError("asked")
-
-    def __index__(self):
-        raise RuntimeError("asked")
-
-    def __le__(self, other):
-        raise RuntimeError("asked")
-
-    def __ge__(self, other):
-        raise RuntimeError("asked")
-
-    def __repr__(self):
-        raise RuntimeError("asked")
-
-
-class HostileList(list):
-    """A list that fails when it is measured or walked."""
-
-    def __len__(self):
-        raise RuntimeError("asked")
-
-    def __iter__(self):
-        raise RuntimeError("asked")
-
-
-def holds_itself():
-    """A list that holds itself."""
-    held = []
-    held.append(held)
-    return held
-
-
-# None of these is a loop, or stands anywhere in one.
-NOWHERE = (
-    True, False, None, "", "text", "1", b"1", 1.0, 0.5, 1j, {}, {0: 1}, set(), frozenset(), (),
-    -1001, 1001, 10 ** 5000, range(2), int, Hostile(), HostileList(), holds_itself(),
-)
 
 # None of these is a number from 0 to whatever.
 NO_COUNTS = (
@@ -95,30 +35,6 @@ def wrong_states(many):
         for thing in (True, False, None, "0", 0.0, [0], (0,), Hostile(), holds_itself()):
             wrong.append(state[:at] + [thing] + state[at + 1:])
     return wrong
-
-
-def places(thing, path=()):
-    """The paths to a thing and to everything in it."""
-    yield path
-    if isinstance(thing, (list, tuple)):
-        for at, part in enumerate(thing):
-            yield from places(part, path + (at,))
-
-
-def found(thing, path):
-    """What stands at a path of a thing."""
-    for at in path:
-        thing = thing[at]
-    return thing
-
-
-def exchanged(thing, path, other):
-    """A copy of a thing with another one at a path."""
-    if not path:
-        return other
-    at, behind = path[0], path[1:]
-    parts = [exchanged(part, behind, other) if k == at else deepcopy(part) for k, part in enumerate(thing)]
-    return tuple(parts) if isinstance(thing, tuple) else parts
 
 
 def is_asks(path):
